@@ -85,7 +85,7 @@ func (m *Meter) Told() (int, uint64, int) {
 	return m.window, m.threshold, m.flight
 }
 
-// afterRecovery reports whether a packet sent at that tick was sent under the present window: an older one says nothing about it.
+// afterRecovery reports whether that tick is after the start of the last recovery: what was sent before says nothing about the window since.
 func (m *Meter) afterRecovery(sent uint64) bool {
 	return !m.recovered || sent > m.start
 }
