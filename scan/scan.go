@@ -1,4 +1,4 @@
-// Package scan takes bytes apart for the layers that read packets and frames. It is no layer of its own.
+// Package scan takes bytes apart for the layers that read packets, frames, messages and objects. It is no layer of its own.
 package scan
 
 import (
